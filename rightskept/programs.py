@@ -151,6 +151,11 @@ def calls_fit(statements, many):
     return True
 
 
+def by_name(functions):
+    """A dict of Functions by their names."""
+    return {function.name: function for function in functions}
+
+
 def is_sketch(program):
     """True if there are types and all of them are numbers."""
     kinds = all_kinds(program.functions, program.statements)

@@ -13,6 +13,13 @@ INTERFACE = {
                  "is_bar": ["one", "two", "letters", "letter"], "joins": ["one", "two"], "meets": ["one", "two"]},
     "programs.py": {"Function": ["name", "params", "body"], "Program": ["functions", "statements"],
                     "is_sketch": ["program"], "variables": ["program"], "with_table": ["sketch", "table"]},
+    "judging.py": {"faults": ["program", "extra"], "is_let_by": ["program", "extra"]},
+    "running.py": {"run": ["program", "extra"]},
+    "machines.py": {"Machine": ["functions", "extra"]},
+}
+
+METHODS = {
+    "machines.py": {"Machine": {"do": ["statement"], "undo": [], "breaches": [], "things": [], "type_of": ["name"]}},
 }
 
 
@@ -36,6 +43,16 @@ class PackageTest(unittest.TestCase):
             for word, arguments in wanted.items():
                 self.assertIn(word, defined)
                 self.assertEqual(arguments_of(defined[word]), arguments, word)
+
+    def test_methods_are_defined_in_their_classes(self):
+        for name, classes in METHODS.items():
+            for node in tree_of(FOLDER / name).body:
+                if isinstance(node, ast.ClassDef):
+                    defined = {part.name: part for part in node.body if isinstance(part, ast.FunctionDef)}
+                    for word, arguments in classes.pop(node.name, {}).items():
+                        self.assertIn(word, defined)
+                        self.assertEqual(arguments_of(defined[word])[1:], arguments, word)
+            self.assertEqual(classes, {})
 
     def test_imports_nothing_from_outside(self):
         for path in sorted(FOLDER.rglob("*.py")):
