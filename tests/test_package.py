@@ -16,6 +16,12 @@ INTERFACE = {
     "judging.py": {"faults": ["program", "extra"], "is_let_by": ["program", "extra"]},
     "running.py": {"run": ["program", "extra"]},
     "machines.py": {"Machine": ["functions", "extra"]},
+    "breaking.py": {"breaking": ["one", "two"], "is_breaking": ["one", "two", "program"]},
+    "sketches.py": {"shape_faults": ["sketch"], "rules": ["sketch", "f", "k"], "least": ["sketch"],
+                    "is_under": ["table", "ceilings"], "fulfils": ["sketch", "table"],
+                    "barred": ["sketch", "ceilings"]},
+    "derivations.py": {"derivation": ["sketch", "claim"], "is_derivation": ["sketch", "steps", "claim"]},
+    "texts.py": {"text_of": ["program"], "read_program": ["text"]},
 }
 
 METHODS = {
