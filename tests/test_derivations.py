@@ -169,6 +169,13 @@ class IsDerivationTest(unittest.TestCase):
                 ([-3, 0], False), ([1, -4], False), ([-2, 0], False), ([1, -1], False)]:
             self.assertIs(self.through(2, (("", 2), premises, ("q", 2, "w"))), wanted, premises)
 
+    def test_premises_told_from_behind(self):
+        """The step -1 does not exist, though Python would take the last one for it."""
+        steps = [BY_HAND[0], BY_HAND[1], (("", 2), [1, -1], ("q", 2, "w")), BY_HAND[0]]
+        self.assertIs(self.tell(THROUGH, steps, ("c", 1, "w")), False)
+        steps = [BY_HAND[0], BY_HAND[1], (("", 2), [1, 0], ("q", 2, "w")), BY_HAND[0]]
+        self.assertIs(self.tell(THROUGH, steps, ("c", 1, "w")), True)
+
     def test_a_premise_too_many_or_too_few(self):
         self.assertIs(self.through(0, (("", 4), [0], ("c", 1, "w"))), False)
         self.assertIs(self.through(1, (("", 3), [0], ("q", 1, "w"))), False)
@@ -204,12 +211,16 @@ class IsDerivationTest(unittest.TestCase):
                       [(["", 4], [], ("c", 1, "w"))], [(("", 4), (), ("c", 1, "w"))], [(("", 4), None, ("c", 1, "w"))],
                       [(("", 4, 0), [], ("c", 1, "w"))], [(("",), [], ("c", 1, "w"))], [((4, ""), [], ("c", 1, "w"))],
                       [((None, 4), [], ("c", 1, "w"))], [(("", "4"), [], ("c", 1, "w"))],
+                      [(([], 4), [], ("c", 1, "w"))], [(("", []), [], ("c", 1, "w"))], [(4, [], ("c", 1, "w"))],
                       [(("", 4), ["0"], ("c", 1, "w"))], [(("", 4), [], ["c", 1, "w"])]]:
             self.assertIs(is_derivation(THROUGH, steps, ("c", 1, "w")), False, steps)
         for steps in [[step, (("", True), [], ("c", 1, "w"))], [(("", 4), [], ("c", True, "w"))]]:
             self.assertIs(is_derivation(THROUGH, steps, ("c", 1, "w")), False, steps)
         steps = [BY_HAND[0], BY_HAND[1], (("", 2), [True, False], ("q", 2, "w"))]
         self.assertIs(is_derivation(THROUGH, steps, ("q", 2, "w")), False)
+        sketch = Program([], [("let", "n", 0, NUMBER), ("put", ("n", 0), NUMBER)])
+        self.assertIs(is_derivation(sketch, [(("", 1), [], ("n", 0, "w"))], ("n", 0, "w")), True)
+        self.assertIs(is_derivation(sketch, [(("", True), [], ("n", 0, "w"))], ("n", 0, "w")), False)
 
     def test_drawn(self):
         told = {True: 0, False: 0}

@@ -521,8 +521,8 @@ class CeilingsTest(unittest.TestCase):
             self.assertIs(is_under(table, ceilings), wanted, ceilings)
 
     def test_where_there_is_no_right(self):
-        self.assertIs(is_under({"x": ("rw",)}, [("x", 1, "-"), ("x", 5, "-"), ("y", 0, "-")]), True)
-        self.assertEqual(barred(self.SKETCH, [("n", 1, "-"), ("zz", 0, "-"), ("f", 0, "-"), ("a", 2, "-")]), [])
+        self.assertIs(is_under({"x": ("rw",)}, [("x", 1, "-"), ("x", 5, "-"), ("x", -1, "-"), ("y", 0, "-")]), True)
+        self.assertEqual(barred(self.SKETCH, [("n", 1, "-"), ("n", -1, "-"), ("zz", 0, "-"), ("a", 2, "-")]), [])
 
     def test_barred(self):
         self.assertEqual(least(self.SKETCH), {"a": ("r", "w"), "n": ("rw",)})

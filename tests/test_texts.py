@@ -182,6 +182,14 @@ class ReadTest(TextsCase):
                 self.assertEqual(parts(read_program(text)), parts(program))
                 self.assertEqual(text.count("\n"), len(text.splitlines()))
 
+    def test_each_letter_and_digit(self):
+        for sign in "abcdefghijklmnopqrstuvwxyz":
+            for text in (f"put {sign} = {sign}\n", f"put x = *{sign}\n", f"let {sign} : r = {sign}z\n"):
+                self.assertEqual(text_of(read_program(text)), text)
+        for number in list(range(30)) + list(range(90, 1001, 7)):
+            program = read_program(f"put x = {number}\n")
+            self.assertEqual(program.statements, [("put", ("x", 0), ("number", number))])
+
     def test_breaking_programs(self):
         program = breaking(("rw", "rw", "r"), ("rw", "r", "rw"))
         self.assertEqual(parts(read_program(text_of(program))), parts(program))
