@@ -28,10 +28,10 @@ def breaking(one, two):
 def is_breaking(one, two, program):
     """True if the program is let by with this extra conversion alone, and its run has a breach."""
     try:
-        _, broken, _ = run(program, [(one, two)])
+        breaches = run(program, [(one, two)])[1]
     except RightsError:
         return False
-    return len(broken) > 0
+    return len(breaches) > 0
 
 
 def pairs_along(one, two, letters):
